@@ -10,9 +10,12 @@ import (
 
 // closure computes what is stored and what is missing of all that is reached, round by round.
 func closure(store []impl.Object, from []int) (stored []int, missing []int) {
-	reached := map[int]bool{}
+	reached, found := map[int]bool{}, map[int]bool{}
 	for _, id := range from {
 		reached[id] = true
+	}
+	for _, o := range store {
+		found[digest(o)] = true
 	}
 	for range len(store) {
 		for _, o := range store {
@@ -22,8 +25,7 @@ func closure(store []impl.Object, from []int) (stored []int, missing []int) {
 		}
 	}
 	for id := range 991 {
-		found := slices.ContainsFunc(store, func(o impl.Object) bool { return digest(o) == id })
-		if reached[id] && found {
+		if reached[id] && found[id] {
 			stored = append(stored, id)
 		} else if reached[id] {
 			missing = append(missing, id)
