@@ -1,6 +1,9 @@
 package impl
 
-import "slices"
+import (
+	"slices"
+	"strings"
+)
 
 // Ids is the number of ids of objects, which are numbered from 0.
 const Ids = 991
@@ -66,9 +69,9 @@ func (o Object) equals(other Object) bool {
 	return o.Kind == other.Kind && o.Text == other.Text && slices.Equal(o.Links, other.Links)
 }
 
-// copied returns o with links of its own.
+// copied returns o in memory of its own.
 func (o Object) copied() Object {
-	return Object{Kind: o.Kind, Links: copyNumbers(o.Links), Text: o.Text}
+	return Object{Kind: o.Kind, Links: copyNumbers(o.Links), Text: strings.Clone(o.Text)}
 }
 
 // ObjectValid reports whether o is valid.
